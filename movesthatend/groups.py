@@ -1,0 +1,134 @@
+"""Moves of people from group to group, one behind another.
+
+What person `other` is worth to `person` stands in worth at person * n + other.
+"""
+
+REFUSED = -22
+NOBODY_MAY_GO = -6
+
+MOST_PEOPLE = 5
+MOST_WORTH = 20
+
+WHERE_WELCOME = 1
+WHERE_LET_GO = 2
+LAST_WAY = 2
+
+
+def worth_is_told(n, worth):
+    """Whether there are 1 to 5 people, and worth has each one's worth to each."""
+    if n < 1 or n > MOST_PEOPLE or len(worth) != n * n:
+        return False
+    for value in worth:
+        if value < -MOST_WORTH or value > MOST_WORTH:
+            return False
+    return True
+
+
+def groups_are_told(n, groups):
+    """Whether groups has a number below n for each person."""
+    if len(groups) != n:
+        return False
+    for number in groups:
+        if number >= n:
+            return False
+    return True
+
+
+def is_refused(n, w, worth, groups):
+    """Whether one of the refusals is due; all of them bear one number, so their order doesn't show."""
+    return not worth_is_told(n, worth) or not groups_are_told(n, groups) or w > LAST_WAY
+
+
+def numbered_as_they_come(groups):
+    """The same groups, in a new list, numbered from 0 as they first come."""
+    new_numbers = {}
+    answer = []
+    for number in groups:
+        if number not in new_numbers:
+            new_numbers[number] = len(new_numbers)
+        answer.append(new_numbers[number])
+    return answer
+
+
+def has_with(n, worth, groups, person, number):
+    """What all others of that group are worth to the person, who may be in it or not.
+
+    Nobody is in the group behind all others, so this is 0 for being alone.
+    """
+    together = 0
+    for other in range(n):
+        if other != person and groups[other] == number:
+            together += worth[person * n + other]
+    return together
+
+
+def is_welcome(n, worth, groups, person, number):
+    """Whether nobody in that other group would have less if the person came."""
+    for other in range(n):
+        if groups[other] == number and worth[other * n + person] < 0:
+            return False
+    return True
+
+
+def is_let_go(n, worth, groups, person):
+    """Whether nobody whom the person leaves would have less by it."""
+    for other in range(n):
+        if other != person and groups[other] == groups[person] and worth[other * n + person] > 0:
+            return False
+    return True
+
+
+def may_go(n, w, worth, groups, person, number):
+    """Whether the person may go to that group by the way w.
+
+    Nobody has more where they are than where they are, so one's own group needs no look of its own.
+    """
+    if has_with(n, worth, groups, person, number) <= has_with(n, worth, groups, person, groups[person]):
+        return False
+    if w >= WHERE_WELCOME and not is_welcome(n, worth, groups, person, number):
+        return False
+    if w >= WHERE_LET_GO and not is_let_go(n, worth, groups, person):
+        return False
+    return True
+
+
+def best_group(n, w, worth, groups, person):
+    """The number of the group the person goes to, or None if they may go nowhere."""
+    alone = max(groups) + 1
+    best = None
+    most = 0
+    for number in range(alone + 1):
+        if may_go(n, w, worth, groups, person, number):
+            there = has_with(n, worth, groups, person, number)
+            # Only more takes the place of what was found: of like ones the least number stays.
+            if best is None or there > most:
+                best = number
+                most = there
+    return best
+
+
+def first_move(n, w, worth, groups):
+    """Who goes, and to which group, or None if nobody may go; groups are numbered as they come."""
+    for person in range(n):
+        number = best_group(n, w, worth, groups, person)
+        if number is not None:
+            return (person, number)
+    return None
+
+
+def moved(groups, person, number):
+    """The groups, in a new list, numbered anew behind the person's move."""
+    behind = list(groups)
+    behind[person] = number
+    return numbered_as_they_come(behind)
+
+
+def step(n, w, worth, groups):
+    """Who goes, to which group, and each person's group then; or a refusal's number alone."""
+    if is_refused(n, w, worth, groups):
+        return [REFUSED]
+    ahead = numbered_as_they_come(groups)
+    move = first_move(n, w, worth, ahead)
+    if move is None:
+        return [NOBODY_MAY_GO]
+    return [move[0], move[1]] + moved(ahead, move[0], move[1])
