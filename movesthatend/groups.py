@@ -132,3 +132,21 @@ def step(n, w, worth, groups):
     if move is None:
         return [NOBODY_MAY_GO]
     return [move[0], move[1]] + moved(ahead, move[0], move[1])
+
+
+def run(n, w, worth, groups):
+    """How many moves are made, 1 if it ends at rest, else 0, and each person's group then; or a refusal's number alone.
+
+    Five people can be in groups in 52 ways, so something comes again behind at most 52 moves.
+    """
+    if is_refused(n, w, worth, groups):
+        return [REFUSED]
+    now = numbered_as_they_come(groups)
+    been = []
+    while now not in been:
+        move = first_move(n, w, worth, now)
+        if move is None:
+            return [len(been), 1] + now
+        been.append(now)
+        now = moved(now, move[0], move[1])
+    return [len(been), 0] + now

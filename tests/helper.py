@@ -64,6 +64,17 @@ def told_step(n, w, worth, groups):
     return [-6]
 
 
+def told_run(n, w, worth, groups):
+    """What run answers to inputs that are not refused."""
+    path = [tuple(numbers_of(n, blocks_of(groups)))]
+    while len(set(path)) == len(path):
+        answer = told_step(n, w, worth, list(path[-1]))
+        if answer == [-6]:
+            return [len(path) - 1, 1] + list(path[-1])
+        path.append(tuple(answer[2:]))
+    return [len(path) - 1, 0] + list(path[-1])
+
+
 def numbers_from(seed):
     """Numbers that look drawn but are the same each time."""
     state = seed
