@@ -134,6 +134,8 @@ class Refusals:
             for length in (0, 1, 4, 25, 27):
                 for people in (0, 1, 5, 6, 7):
                     self.assert_refused(n, 0, [0] * length, [0] * people)
+        # More than is ever handed in, but six people are too many by themselves.
+        self.assert_refused(6, 0, [0] * 36, [0] * 6)
         for n in range(1, 6):
             self.assert_taken(n, 0, [0] * (n * n), [0] * n)
 
