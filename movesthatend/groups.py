@@ -8,6 +8,7 @@ NOBODY_MAY_GO = -6
 
 MOST_PEOPLE = 5
 MOST_WORTH = 20
+MOST_MOVES = 60
 
 WHERE_WELCOME = 1
 WHERE_LET_GO = 2
@@ -150,3 +151,21 @@ def run(n, w, worth, groups):
         been.append(now)
         now = moved(now, move[0], move[1])
     return [len(been), 0] + now
+
+
+def list_of(n, w, m, worth, groups):
+    """How many moves are made, up to m, then of each who goes and to which group; or a refusal's number alone.
+
+    What has been may come again: that doesn't end it.
+    """
+    if is_refused(n, w, worth, groups) or m > MOST_MOVES:
+        return [REFUSED]
+    now = numbered_as_they_come(groups)
+    moves = []
+    for made in range(m):
+        move = first_move(n, w, worth, now)
+        if move is None:
+            return [made] + moves
+        moves = moves + [move[0], move[1]]
+        now = moved(now, move[0], move[1])
+    return [m] + moves

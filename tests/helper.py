@@ -75,6 +75,18 @@ def told_run(n, w, worth, groups):
     return [len(path) - 1, 0] + list(path[-1])
 
 
+def told_list(n, w, m, worth, groups):
+    """What list_of answers to inputs that are not refused."""
+    moves = []
+    while len(moves) < m:
+        answer = told_step(n, w, worth, groups)
+        if answer == [-6]:
+            break
+        moves.append(answer[:2])
+        groups = answer[2:]
+    return [len(moves)] + [number for move in moves for number in move]
+
+
 def numbers_from(seed):
     """Numbers that look drawn but are the same each time."""
     state = seed
