@@ -169,3 +169,14 @@ def list_of(n, w, m, worth, groups):
         moves = moves + [move[0], move[1]]
         now = moved(now, move[0], move[1])
     return [m] + moves
+
+
+def even(n, worth):
+    """1 if each is worth to each as much as the other way round, else 0; or a refusal's number alone."""
+    if not worth_is_told(n, worth):
+        return [REFUSED]
+    for person in range(n):
+        for other in range(person):
+            if worth[person * n + other] != worth[other * n + person]:
+                return [0]
+    return [1]
