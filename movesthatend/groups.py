@@ -180,3 +180,13 @@ def even(n, worth):
             if worth[person * n + other] != worth[other * n + person]:
                 return [0]
     return [1]
+
+
+def total(n, worth, groups):
+    """0, then what all have, together, which may be below 0; or a refusal's number alone."""
+    if not worth_is_told(n, worth) or not groups_are_told(n, groups):
+        return [REFUSED]
+    together = 0
+    for person in range(n):
+        together += has_with(n, worth, groups, person, groups[person])
+    return [0, together]

@@ -132,8 +132,8 @@ class Untouchable(list):
     append = clear = extend = insert = pop = remove = reverse = sort = refuse_change
 
 
-class Refusals:
-    """The refusals of point 1 for a call with n, w, worth, groups; `call` is the function asked."""
+class PeopleAndGroupsRefusals:
+    """The refusals of point 1 but for the way; `call` is the function asked, with n, w, worth, groups."""
 
     def assert_refused(self, n, w, worth, groups):
         self.assertEqual(type(self).call(n, w, worth, groups), [-22], (n, w, worth, groups))
@@ -186,16 +186,8 @@ class Refusals:
                 groups[person] = n - 1
                 self.assert_taken(n, 0, [0] * (n * n), groups)
 
-    def test_ways_there_are_not(self):
-        for n in range(1, 6):
-            for w in (3, 4, 255, HIGHEST):
-                self.assert_refused(n, w, [0] * (n * n), [0] * n)
-            for w in WAYS:
-                self.assert_taken(n, w, [0] * (n * n), [0] * n)
-
     def test_a_refusal_though_somebody_might_go(self):
         self.assert_taken(2, 0, [0, 1, 1, 0], [0, 1])
-        self.assert_refused(2, 3, [0, 1, 1, 0], [0, 1])
         self.assert_refused(2, 0, [21, 1, 1, 0], [0, 1])
         self.assert_refused(2, 0, [0, 1, 1, -21], [0, 1])
         self.assert_refused(2, 0, [0, 1, 1, 0], [0, 2])
@@ -209,6 +201,21 @@ class Refusals:
         self.assert_refused(2, 3, [0, 0, 0, 0], [0, 2])
         self.assert_refused(2, 0, [0, 0, 0], [0])
         self.assert_refused(3, 3, [], [])
+
+
+class Refusals(PeopleAndGroupsRefusals):
+    """The refusals of point 1, the way among them."""
+
+    def test_ways_there_are_not(self):
+        for n in range(1, 6):
+            for w in (3, 4, 255, HIGHEST):
+                self.assert_refused(n, w, [0] * (n * n), [0] * n)
+            for w in WAYS:
+                self.assert_taken(n, w, [0] * (n * n), [0] * n)
+
+    def test_a_way_there_is_not_though_somebody_might_go(self):
+        self.assert_taken(2, 2, [0, 1, 1, 0], [0, 1])
+        self.assert_refused(2, 3, [0, 1, 1, 0], [0, 1])
 
 
 class Manners:
