@@ -93,18 +93,22 @@ def may_go(n, w, worth, groups, person, number):
     return True
 
 
+def where_one_may_go(n, w, worth, groups, person):
+    """The numbers of the groups the person may go to; groups are numbered as they come."""
+    alone = max(groups) + 1
+    return [number for number in range(alone + 1) if may_go(n, w, worth, groups, person, number)]
+
+
 def best_group(n, w, worth, groups, person):
     """The number of the group the person goes to, or None if they may go nowhere."""
-    alone = max(groups) + 1
     best = None
     most = 0
-    for number in range(alone + 1):
-        if may_go(n, w, worth, groups, person, number):
-            there = has_with(n, worth, groups, person, number)
-            # Only more takes the place of what was found: of like ones the least number stays.
-            if best is None or there > most:
-                best = number
-                most = there
+    for number in where_one_may_go(n, w, worth, groups, person):
+        there = has_with(n, worth, groups, person, number)
+        # Only more takes the place of what was found: of like ones the least number stays.
+        if best is None or there > most:
+            best = number
+            most = there
     return best
 
 
@@ -190,3 +194,64 @@ def total(n, worth, groups):
     for person in range(n):
         together += has_with(n, worth, groups, person, groups[person])
     return [0, together]
+
+
+def behind_one_move(n, w, worth, groups):
+    """What comes of each move that anybody may make; the same may stand there more than once."""
+    answer = []
+    for person in range(n):
+        for number in where_one_may_go(n, w, worth, groups, person):
+            answer.append(tuple(moved(groups, person, number)))
+    return answer
+
+
+def ways_come_to(n, w, worth, groups):
+    """Of each way to be in groups that may be come to, as a tuple, what comes of each move from there."""
+    onward = {}
+    waiting = [tuple(groups)]
+    while len(waiting) > 0:
+        now = waiting.pop()
+        if now not in onward:
+            onward[now] = behind_one_move(n, w, worth, now)
+            waiting.extend(onward[now])
+    return onward
+
+
+def one_is_at_rest(onward):
+    """Whether no move leads on from one of the ways to be in groups."""
+    return any([len(onward[now]) == 0 for now in onward])
+
+
+def that_lead_on(onward):
+    """Those ways to be in groups from which a move leads to one that is still there, and these moves alone."""
+    answer = {}
+    for now in onward:
+        kept = [then for then in onward[now] if then in onward]
+        if len(kept) > 0:
+            answer[now] = kept
+    return answer
+
+
+def may_go_round(onward):
+    """Whether some moves lead from one of the ways to be in groups to that again.
+
+    What leads nowhere is taken out till nothing more goes: what is left then leads on for ever,
+    and as there are only so many ways to be in groups, that is round.
+    """
+    left = onward
+    fewer = that_lead_on(left)
+    while len(fewer) < len(left):
+        left = fewer
+        fewer = that_lead_on(left)
+    return len(left) > 0
+
+
+def all_of(n, w, worth, groups):
+    """How many ways to be in groups may be come to, then whether one is at rest, and whether it may go round: 1 or 0.
+
+    Or a refusal's number alone.
+    """
+    if is_refused(n, w, worth, groups):
+        return [REFUSED]
+    onward = ways_come_to(n, w, worth, numbered_as_they_come(groups))
+    return [len(onward), 1 if one_is_at_rest(onward) else 0, 1 if may_go_round(onward) else 0]

@@ -4,6 +4,7 @@ Groups are sets of people here, and what each one has is counted anew ahead of a
 so that a slip in the package is not made here in the same way.
 """
 
+from functools import lru_cache
 from itertools import product
 
 HIGHEST = 4294967295
@@ -85,6 +86,36 @@ def told_list(n, w, m, worth, groups):
         moves.append(answer[:2])
         groups = answer[2:]
     return [len(moves)] + [number for move in moves for number in move]
+
+
+@lru_cache(None)
+def all_ways(n):
+    """All ways to be in groups, each once."""
+    return sorted({tuple(numbers_of(n, blocks_of(groups))) for groups in product(range(n), repeat=n)})
+
+
+def told_all_from_each(n, w, worth):
+    """What all_of answers from each way to be in groups, where it is not refused.
+
+    First what comes of one move from each of all ways there are, then of one move or more.
+    """
+    ways = all_ways(n)
+    next_ones = {
+        way: {tuple(move[2]) for person in range(n) for move in told_moves(n, w, worth, list(way), person)}
+        for way in ways
+    }
+    later = {way: set(next_ones[way]) for way in ways}
+    for between in ways:
+        for way in ways:
+            if between in later[way]:
+                later[way] |= later[between]
+    answers = {}
+    for way in ways:
+        come_to = later[way] | {way}
+        rests = any(not next_ones[one] for one in come_to)
+        goes_round = any(one in later[one] for one in come_to)
+        answers[way] = [len(come_to), int(rests), int(goes_round)]
+    return answers
 
 
 def numbers_from(seed):

@@ -19,7 +19,7 @@ EXPRESSIONS = (
     ast.unaryop, ast.cmpop, ast.Add, ast.Sub, ast.Mult, ast.FloorDiv, ast.Mod
 )
 OWN_NAMES_USED = ("len", "range", "enumerate", "min", "max", "sum", "abs", "sorted", "list", "tuple", "any", "all")
-METHODS = ("append", "get", "index", "copy", "extend")
+METHODS = ("append", "get", "index", "copy", "extend", "pop")
 WORDS_LEFT_OUT = (
     "type", "typing", "typing_extensions", "enum", "Enum", "IntEnum", "StrEnum", "Flag", "IntFlag", "Generic",
     "Protocol", "ABC", "ABCMeta", "namedtuple", "NamedTuple", "TypedDict", "TYPE_CHECKING", "abstractmethod"
